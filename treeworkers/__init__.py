@@ -1,0 +1,1 @@
+"""A tree worked out by several workers who send each other outcomes."""
