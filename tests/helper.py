@@ -12,6 +12,15 @@ SMALL = "S > v; E d > v; top S: E { v = 1.v; 1.d = 4; } lit E #: { v = # + d; }"
 
 GREATEST = 10 ** 18
 
+# Worker 0 sends four outcomes to each of five others, and gets none.
+MANY = """S > ; E a b c d > ; F x > ;
+three S: E E E { 1.a = 1; 1.b = 2; 1.c = 3; 1.d = 4; 2.a = 5; 2.b = 6; 2.c = 7; 2.d = 8; 3.a = 9; 3.b = 10; 3.c = 11;
+                 3.d = 12; }
+top S: S E E { 2.a = 13; 2.b = 14; 2.c = 15; 2.d = 16; 3.a = 17; 3.b = 18; 3.c = 19; 3.d = 20; }
+mid E: F { 1.x = a + b + c + d; }
+leaf F: { }
+"""
+
 
 def to_bytes(text):
     return list(text) if isinstance(text, (list, bytes)) else list(text.encode("utf-8"))
@@ -49,6 +58,34 @@ def deliver(message):
     return [7, message]
 
 
+def double(message):
+    return [8, message]
+
+
+def lose(message):
+    return [9, message]
+
+
+def forget(worker):
+    return [10, worker]
+
+
+def resend(worker):
+    return [11, worker]
+
+
+def work_all():
+    return [12]
+
+
+def knows(worker, node, attribute):
+    return [13, worker, node, attribute]
+
+
+def status():
+    return [14]
+
+
 def parted(row):
     """The answers of single calls, out of what is given back for all of them."""
     found = []
@@ -70,6 +107,13 @@ def ask(*calls):
 
 def last(*calls):
     return ask(*calls)[-1]
+
+
+def full_wire():
+    """Calls behind which 500 messages are on the wire, the next of which are like the first 20 again."""
+    text = "top(three(mid(leaf), mid(leaf), mid(leaf)), mid(leaf), mid(leaf))"
+    cuts = [cut(node) for node in (2, 4, 6, 8, 10)]
+    return [grammar(MANY), tree(text), *cuts, begin(), work(0)] + [resend(0)] * 24
 
 
 def holding(expression, given="0"):

@@ -4,7 +4,9 @@ import random
 import re
 import unittest
 
-from tests.helper import begin, cut, deliver, grammar, home, parted, tree, wire, work
+from tests.helper import (
+    begin, cut, deliver, double, forget, grammar, home, knows, lose, parted, resend, status, tree, wire, work, work_all,
+)
 from treeworkers.desk import answers
 
 TOKEN = re.compile(rb"([A-Za-z][A-Za-z0-9]*)|([0-9]+)|([;:{}()\[\],.=<>+\-*/%&|!?#])|([ \n]+)")
@@ -444,7 +446,7 @@ class Model:
             return [-5]
         if self.known is not None:
             return [-9]
-        self.known, self.messages = [{} for worker in self.cuts], []
+        self.known, self.messages, self.put = [{} for worker in self.cuts], [], 0
         self.homes = {instance: self.home_of(instance) for instance in self.instances}
         self.needed = {instance: self.named(instance) for instance in self.instances}
         self.receivers = {}
@@ -491,16 +493,25 @@ class Model:
             return [-14]
         if len(self.messages) > 500:
             return [-15]
-        count = sent = 0
-        while count < most and self.first_ready(worker):
+        before, count = self.put, self.work_out(worker, most)
+        return [0, count, self.put - before]
+
+    def work_out(self, worker, most):
+        count = 0
+        while count != most and self.first_ready(worker):
             instance = self.first_ready(worker)
-            outcome = self.worth(instance, worker)
-            self.known[worker][instance] = outcome
+            self.known[worker][instance] = self.worth(instance, worker)
             count += 1
-            if instance in self.receivers:
-                self.messages.append((worker, self.receivers[instance], instance, outcome))
-                sent += 1
-        return [0, count, sent]
+            self.send(worker, instance)
+        return count
+
+    def send(self, worker, instance):
+        if instance in self.receivers:
+            self.put_there((worker, self.receivers[instance], instance, self.known[worker][instance]))
+
+    def put_there(self, message):
+        self.messages = self.messages + [message]
+        self.put += 1
 
     def two(self, instance):
         return [instance[0], self.names(instance[0]).index(instance[1])]
@@ -523,20 +534,101 @@ class Model:
         self.known[receiver].setdefault(instance, outcome)
         return [0, receiver] + self.two(instance) + [int(new)]
 
+    def double(self, message):
+        if self.known is None:
+            return [-6]
+        if not 0 <= message < len(self.messages):
+            return [-16]
+        if len(self.messages) > 500:
+            return [-15]
+        self.put_there(self.messages[message])
+        return [0]
+
+    def lose(self, message):
+        if self.known is None:
+            return [-6]
+        if not 0 <= message < len(self.messages):
+            return [-16]
+        self.messages = self.messages[:message] + self.messages[message + 1:]
+        return [0]
+
+    def forget(self, worker):
+        if self.known is None:
+            return [-6]
+        if not 0 <= worker < len(self.cuts):
+            return [-13]
+        before, self.known[worker] = self.known[worker], {}
+        return [0, len(before)]
+
+    def resend(self, worker):
+        if self.known is None:
+            return [-6]
+        if not 0 <= worker < len(self.cuts):
+            return [-13]
+        if len(self.messages) > 500:
+            return [-15]
+        before = self.put
+        for instance in self.instances:
+            if self.homes[instance] == worker and instance in self.known[worker]:
+                self.send(worker, instance)
+        return [0, self.put - before]
+
+    def all(self):
+        if self.known is None:
+            return [-6]
+        turns = delivered = 0
+        while True:
+            count = sum(self.work_out(worker, None) for worker in range(len(self.cuts)))
+            if count == 0 and self.messages == []:
+                return [0, turns, delivered]
+            turns += 1
+            while self.messages:
+                self.deliver(0)
+                delivered += 1
+
+    def knows(self, worker, node, attribute):
+        if self.known is None:
+            return [-6]
+        if not 0 <= worker < len(self.cuts):
+            return [-13]
+        if not 0 <= node < len(self.nodes):
+            return [-10]
+        if not 0 <= attribute < len(self.names(node)):
+            return [-12]
+        instance = (node, self.names(node)[attribute])
+        return [0] + flat(self.known[worker][instance]) if instance in self.known[worker] else [1]
+
+    def status(self):
+        if self.known is None:
+            return [-6]
+        lacking = [instance for instance in self.instances if instance not in self.known[self.homes[instance]]]
+        ready = [instance for instance in lacking
+                 if all(other in self.known[self.homes[instance]] for other in self.needed[instance])]
+        return [0, len(lacking), len(ready), len(self.messages), self.put]
+
 
 ATTRIBUTES = ["v", "d", "len", "at", "w"]
+# How often at most a call is drawn, beside eight times work.
+WORKING = {"deliver": 9, "double": 6, "resend": 4, "lose": 3, "knows": 4, "status": 2, "wire": 2, "forget": 1, "all": 1,
+           "home": 1, "begin": 1}
 
 
 class Maker:
-    """Makes grammars, trees and calls out of a seed."""
+    """Makes grammars, trees and calls out of a seed; lively ones are such that many messages are sent."""
 
-    def __init__(self, seed):
+    def __init__(self, seed, lively=False):
         self.dice = random.Random(seed)
+        self.lively = lively
+        # Some seeds call some calls seldom or never, so that much of the others can come together.
+        self.names = ["work"] * 8
+        for name, most in WORKING.items():
+            self.names += [name] * self.dice.randint(0, most)
 
     def expression(self, atoms, budget):
         dice = self.dice
         if budget <= 1 or dice.random() < 0.25:
-            return dice.choice(atoms + ["0", "1", "2", "-3", "[]", "[1, 2]", "999999999999999999"])
+            return dice.choice(atoms * (3 if self.lively else 1)
+                               + ["0", "1", "2", "-3", "[]", "[1, 2]", "999999999999999999"])
         shape = dice.choice(["%s + %s", "%s - %s", "%s*%s", "%s / %s", "%s%%%s", "%s = %s", "%s<%s", "%s&%s", "%s | %s",
                              "-%s", "!%s", "(%s)", "[%s, %s, %s]", "[%s]", "[%s, %s]", "[%s, %s]", "cat(%s, %s)",
                              "cat([%s], [%s, %s])", "len(%s)", "at(%s, %s)", "drop(%s, %s)", "has(%s, %s)",
@@ -544,20 +636,21 @@ class Maker:
                              "if %s then %s else %s"])
         count = shape.replace("%%", "").count("%s")
         inner = [self.expression(atoms, (budget - 1) // count) for number in range(count)]
-        return shape % tuple(self.dice.choice(["%s", "(%s)", "(%s)"]) % one for one in inner)
+        frames = ["(%s)"] if self.lively else ["%s", "(%s)", "(%s)"]
+        return shape % tuple(dice.choice(frames) % one for one in inner)
 
     def grammar(self):
         dice = self.dice
         names = ["S", "E", "F", "Gg1"][:dice.randint(1, 4)]
         self.symbols, self.productions = {}, {}
         for name in names:
-            found = dice.sample(ATTRIBUTES, dice.randint(0, 4))
-            split = dice.randint(0, len(found))
+            found = dice.sample(ATTRIBUTES, dice.randint(2 if self.lively else 0, 4))
+            split = dice.randint(1, len(found) - 1) if self.lively else dice.randint(0, len(found))
             self.symbols[name] = (found[:split], found[split:])
         lines = ["%s %s > %s;" % (name, " ".join(down), " ".join(up)) for name, (down, up) in self.symbols.items()]
         for number in range(dice.randint(len(names) + 1, len(names) + 7)):
             left = names[number] if number < len(names) else dice.choice(names)
-            count = 0 if number < len(names) else dice.choice([0, 1, 2, 2, 3])
+            count = 0 if number < len(names) else dice.choice([1, 2, 3] if self.lively else [0, 1, 2, 2, 3])
             children = [dice.choice(names) for child in range(count)]
             lines.append(self.production("p%d" % number, left, children))
         # The first production of each symbol has no children, so each symbol has a tree.
@@ -568,20 +661,30 @@ class Maker:
         dice = self.dice
         holds = dice.random() < 0.4
         self.productions[name] = (left, holds, children)
-        atoms, targets = ["#"] * holds, []
-        for place, symbol in enumerate([left] + children):
-            down, up = self.symbols[symbol]
-            atoms += ["%d.%s" % (place, one) for one in (up + down if place else down)]
-            targets += ["%d.%s" % (place, one) for one in (down if place else up)]
-        if dice.random() < 0.1:
-            atoms += ["0." + one for one in self.symbols[left][1]]
-        if dice.random() < 0.02:
-            atoms += ["0.v", "1.d", "#"]
-        atoms = [one[2:] if one[:2] == "0." and dice.random() < 0.7 else one for one in atoms]
-        rules = ["%s = %s;" % (one, self.expression(atoms, dice.choice([1, 3, 9, 20]))) for one in targets]
+        places = [self.symbols[symbol] for symbol in [left] + children]
+        targets = [(place, one) for place, (down, up) in enumerate(places) for one in (down if place else up)]
+        orderly = self.lively and dice.random() < 0.9
+        atoms = self.atoms(places, holds, None)
+        rules = []
+        for place, one in targets:
+            fitting = self.atoms(places, holds, place) if orderly else atoms
+            rules.append("%d.%s = %s;" % (place, one, self.expression(fitting, dice.choice([1, 3, 9, 20]))))
         rules += ["? %s;" % self.expression(atoms, 5) for count in range(dice.choice([0, 0, 1]))]
         dice.shuffle(rules)
         return "%s %s%s: %s { %s }" % (name, left, " #" * holds, " ".join(children), " ".join(rules))
+
+    def atoms(self, places, holds, target):
+        """What may stand in expressions; for a target's place only what makes no circle."""
+        dice = self.dice
+        found = ["#"] * holds + ["0." + one for one in places[0][0]]
+        for place, (down, up) in enumerate(places):
+            if place and (not target or place < target):
+                found += ["%d.%s" % (place, one) for one in up + down]
+        if target is None and dice.random() < 0.1:
+            found += ["0." + one for one in places[0][1]]
+        if not self.lively and dice.random() < 0.02:
+            found += ["0.v", "1.d", "#"]
+        return [one[2:] if one[:2] == "0." and dice.random() < 0.7 else one for one in found]
 
     def tree(self, symbol=None, levels=4):
         dice = self.dice
@@ -613,18 +716,46 @@ class Maker:
             found.append(("tree", self.spoiled(text, 0.1)))
             found += [("cut", dice.randint(0, nodes - 1)) for number in range(workers - 1)]
             found += [("cut", dice.randint(-1, nodes)), ("begin",)]
-            for number in range(dice.randint(5, 80)):
-                found.append(dice.choice([
-                    ("home", dice.randint(0, nodes), dice.randint(-1, 4)), ("wire",), ("begin",),
-                    ("work", dice.randint(0, workers), dice.choice([0, 1, 2, 3, 1000])),
-                    ("work", dice.randint(-1, workers), dice.choice([1000, 1000, 1000, 1001, -1])),
-                    ("work", dice.randint(0, workers), 1000), ("work", dice.randint(0, workers), 1000),
-                    ("deliver", 0), ("deliver", 0), ("deliver", dice.randint(-1, 6)), ("deliver", dice.randint(0, 2))]))
+            found += [self.working_call(nodes, workers) for number in range(dice.randint(5, 120))]
         return found
+
+    def begun(self):
+        """The calls up to begin, how many nodes there are, and how many workers."""
+        text = self.grammar()
+        whole = max([self.tree() for count in range(9)], key=lambda one: one.count("p") * (one.count("p") <= 40))
+        nodes = whole.count("p")
+        cuts = self.dice.sample(range(1, nodes), min(nodes - 1, self.dice.randint(1, 7)))
+        calls = [("grammar", list(text.encode())), ("tree", list(whole.encode()))]
+        return calls + [("cut", node) for node in cuts] + [("begin",)], nodes, len(cuts) + 1
+
+    def lively_calls(self):
+        calls, nodes, workers = self.begun()
+        count = self.dice.randint(40, 380)
+        if self.dice.random() < 0.2:
+            # This may fill the wire.
+            calls += [("all",)] + [("resend", worker) for worker in range(workers)] * (280 // workers)
+            count = 90
+        return calls + [self.working_call(nodes, workers) for number in range(count)]
+
+    def working_call(self, nodes, workers):
+        dice = self.dice
+        worker, message = dice.randint(0, workers - 1), dice.choice([0, 1, 2, 3, dice.randint(4, 20)])
+        instance = (dice.randint(0, nodes - 1), dice.randint(0, 3))
+        wild = dice.random() < 0.05
+        if wild:
+            worker, message = dice.choice([-1, workers, 8, 10 ** 18]), dice.choice([-1, 9, -10 ** 18])
+            instance = (dice.randint(-1, nodes), dice.randint(-1, 4))
+        name = dice.choice(self.names)
+        given = {"work": (worker, dice.choice([0, 1, 2, 3, 1000, 1000, 1000] + [1001, -1] * wild)), "home": instance,
+                 "knows": (worker, *instance), "wire": (), "begin": (), "status": (), "all": (),
+                 "deliver": (dice.choice([0, message]),), "double": (message,), "lose": (message,),
+                 "forget": (worker,), "resend": (worker,)}
+        return (name, *given[name])
 
 
 WRITTEN = {"grammar": grammar, "tree": tree, "cut": cut, "begin": begin, "home": home, "work": work, "wire": wire,
-           "deliver": deliver}
+           "deliver": deliver, "double": double, "lose": lose, "forget": forget, "resend": resend, "all": work_all,
+           "knows": knows, "status": status}
 
 
 class Compared(unittest.TestCase):
@@ -637,9 +768,14 @@ class Compared(unittest.TestCase):
             self.assertEqual(answer, getattr(model, call[0])(*call[1:]), call)
 
     def test_by_the_hundred(self):
-        for seed in range(400):
+        for seed in range(300):
             with self.subTest(seed=seed):
                 self.compare(Maker(seed).calls())
+
+    def test_lively_ones_by_the_hundred(self):
+        for seed in range(200):
+            with self.subTest(seed=seed):
+                self.compare(Maker(seed, lively=True).lively_calls())
 
 
 if __name__ == "__main__":

@@ -2,9 +2,9 @@
 
 import unittest
 
-from tests.helper import GREATEST, SMALL, ask, begin, cut, deliver, grammar, last, tree, wire, work
-from treeworkers.desk import Desk, answer_call
-from treeworkers.work import Message
+from tests.helper import (
+    GREATEST, SMALL, ask, begin, cut, deliver, double, forget, grammar, last, resend, tree, wire, work,
+)
 
 # Four leaves, each of which gets its own outcome from the root's worker.
 FOUR = """S > v; E d > v; top S: E E E { v = 1.v + 2.v + 3.v; 1.d = [7, []]; 2.d = 1 / 0; 3.d = -5; }
@@ -92,17 +92,18 @@ class Deliver(unittest.TestCase):
                 self.assertEqual(last(*calls, deliver(number)), [-6])
 
     def test_what_was_known_before(self):
-        # The calls so far send nothing twice, so a second message like the first is put there by hand.
-        desk = Desk()
-        for call, handed in ((0, list(SMALL.encode())), (1, list(b"top(lit 3)")), (2, [1]), (3, [])):
-            answer_call(desk, call, handed)
-        self.assertEqual(answer_call(desk, 5, [0, 9]), [0, 1, 1])
-        desk.work.messages.append(Message(0, 1, 1, 4))
-        self.assertEqual(answer_call(desk, 6, []), [0, 0, 1, 1, 0, 0, 4, 0, 1, 1, 0, 0, 4])
-        self.assertEqual(answer_call(desk, 7, [1]), [0, 1, 1, 0, 1])
-        self.assertEqual(answer_call(desk, 7, [0]), [0, 1, 1, 0, 0])
-        self.assertEqual(answer_call(desk, 6, []), [0])
-        self.assertEqual(answer_call(desk, 5, [1, 9]), [0, 1, 1])
+        found = ask(*HELD, work(0), double(1), double(1), deliver(4), deliver(1), deliver(2), work(3), wire())
+        self.assertEqual(found[9:], [
+            [0, 3, 2, 0, 1], [0, 3, 2, 0, 0], [0, 3, 2, 0, 0], [0, 1, 1], [0] + FIRST + THIRD + [3, 0, 2, 1, 2, 3]])
+
+    def test_what_was_known_before_and_is_sent_again(self):
+        found = ask(*HELD, work(0), deliver(0), resend(0), deliver(2), deliver(0), wire())
+        self.assertEqual(found[7:], [
+            [0, 2, 1, 0, 1], [0, 3], [0, 2, 1, 0, 0], [0, 3, 2, 0, 1], [0] + THIRD + SECOND + THIRD])
+
+    def test_what_was_forgotten_is_new_again(self):
+        found = ask(*HELD, work(0), double(0), deliver(0), forget(2), deliver(2), work(2))
+        self.assertEqual(found[8:], [[0, 2, 1, 0, 1], [0, 1], [0, 2, 1, 0, 1], [0, 1, 1]])
 
     def test_the_order_of_delivery_does_not_matter(self):
         told = set()

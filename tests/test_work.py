@@ -2,10 +2,11 @@
 
 import unittest
 
-from tests.helper import GREATEST, SMALL, ask, begin, cut, deliver, grammar, home, last, tree, wire, work
+from tests.helper import (
+    GREATEST, SMALL, ask, begin, cut, deliver, double, forget, full_wire, grammar, home, last, lose, status, tree, wire,
+    work,
+)
 from tests.test_workers import FLOW
-from treeworkers.desk import Desk, answer_call
-from treeworkers.work import Message
 
 HELD = [grammar(FLOW), tree("top(pair(leaf 1, leaf 2))"), cut(2), cut(3), begin()]
 
@@ -135,14 +136,6 @@ class Circles(unittest.TestCase):
             [0, 0, 0], [0, 0, 0], [0, 2, 1], [0, 2, 0, 3, 0, 0, 1], [0, 0, 3, 0, 1], [0, 0, 0]])
 
 
-def desk_with_messages(count):
-    desk = Desk()
-    for call, handed in ((0, list(SMALL.encode())), (1, list(b"top(lit 3)")), (2, [1]), (3, [])):
-        assert answer_call(desk, call, handed)[0] == 0
-    desk.work.messages = [Message(0, 1, 1, 4) for number in range(count)]
-    return desk
-
-
 class Refusals(unittest.TestCase):
     def test_not_begun(self):
         for calls in ([], [grammar(SMALL)], [grammar(SMALL), tree("top(lit 3)")], [grammar(SMALL), tree("x")]):
@@ -167,24 +160,19 @@ class Refusals(unittest.TestCase):
         self.assertEqual(len(found[11]), 1 + 3 * 6)
 
     def test_more_than_five_hundred_messages(self):
-        # The calls so far bring at most one message for each instance, so the wire is filled by hand.
-        desk = desk_with_messages(500)
-        self.assertEqual(answer_call(desk, 5, [0, 1]), [0, 1, 1])
-        self.assertEqual(len(desk.work.messages), 501)
-        for worker, most in ((0, 0), (0, 1), (1, 1000)):
-            self.assertEqual(answer_call(desk, 5, [worker, most]), [-15])
-        self.assertEqual(answer_call(desk, 5, [2, 1]), [-13])
-        self.assertEqual(answer_call(desk, 5, [0, -1]), [-14])
-        self.assertEqual(answer_call(desk, 5, [0, 1001]), [-14])
-        self.assertEqual(len(desk.work.messages), 501)
-        self.assertEqual(answer_call(desk, 7, [0]), [0, 1, 1, 0, 1])
-        self.assertEqual(answer_call(desk, 5, [1, 1]), [0, 1, 1])
+        # Behind full_wire worker 0 has worked out all that is its own, so it forgets to be ready again.
+        held = [*full_wire(), forget(0)]
+        found = ask(*held, work(0, 1), work(0, 0), work(0, 1), work(1, 1000), work(6, 1), work(-1, 1), work(0, -1),
+                    work(5, 1001), status(), lose(0), work(0, 1), work(0, 1), lose(0), work(0), work(0), status())
+        self.assertEqual(found[len(held):], [
+            [0, 1, 1], [-15], [-15], [-15], [-13], [-13], [-14], [-14], [0, 24, 19, 501, 501], [0], [0, 1, 1], [-15],
+            [0], [0, 18, 18], [-15], [0, 5, 0, 518, 520]])
 
     def test_a_refusal_for_a_full_wire_changes_nothing(self):
-        desk = desk_with_messages(501)
-        self.assertEqual(answer_call(desk, 5, [0, 1]), [-15])
-        self.assertEqual(desk.work.known, [{}, {}])
-        self.assertEqual(len(desk.work.messages), 501)
+        held = [*full_wire(), double(0), forget(0)]
+        told = ask(*held, wire(), status(), work(0, 1), work(0, 1000), work(0, 0), status(), wire())[len(held):]
+        self.assertEqual(told[2:5], [[-15]] * 3)
+        self.assertEqual(told[:2], [told[6], told[5]])
 
 
 if __name__ == "__main__":

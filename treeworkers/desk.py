@@ -6,7 +6,10 @@ from treeworkers.instances import Tree
 from treeworkers.outcomes import flat_form
 from treeworkers.soundness import check_grammar
 from treeworkers.trees import read_tree
-from treeworkers.work import Work, deliver_message, work_out_ready
+from treeworkers.work import (
+    Work, count_ready, count_unknown, deliver_message, double_message, forget_all, resend_known, take_all_turns,
+    work_out_ready,
+)
 
 # The calls behind this one are for work that has begun.
 BEGIN = 3
@@ -15,6 +18,9 @@ MOST_BYTES = 3000
 MOST_WORKERS = 8
 MOST_WORKED_OUT = 1000
 FULL_WIRE = 500
+
+# What knows answers where there is no outcome to tell.
+NOT_KNOWN = 1
 
 TEXT_TOO_LONG = -1
 NO_GRAMMAR_TEXT = -2
@@ -43,6 +49,19 @@ class Desk:
 
 def is_place(number, things):
     return 0 <= number < len(things)
+
+
+def is_full(messages):
+    return len(messages) > FULL_WIRE
+
+
+# None stands where the instance is there.
+def refusal_of_instance(tree, node, attribute):
+    if not is_place(node, tree.nodes):
+        return NO_SUCH_NODE
+    if not is_place(attribute, tree.symbols[node].attributes):
+        return NO_SUCH_ATTRIBUTE
+    return None
 
 
 def call_grammar(desk, text):
@@ -100,12 +119,10 @@ def call_begin(desk, numbers):
 
 
 def call_home(desk, numbers):
-    tree = desk.tree
-    if not is_place(numbers[0], tree.nodes):
-        return [NO_SUCH_NODE]
-    if not is_place(numbers[1], tree.symbols[numbers[0]].attributes):
-        return [NO_SUCH_ATTRIBUTE]
-    instance = tree.firsts[numbers[0]] + numbers[1]
+    refusal = refusal_of_instance(desk.tree, numbers[0], numbers[1])
+    if refusal is not None:
+        return [refusal]
+    instance = desk.tree.firsts[numbers[0]] + numbers[1]
     receiver = desk.work.receivers[instance]
     if receiver is None:
         return [0, desk.work.homes[instance]]
@@ -119,7 +136,7 @@ def call_work(desk, numbers):
         return [NO_SUCH_WORKER]
     if most < 0 or most > MOST_WORKED_OUT:
         return [WRONG_MOST]
-    if len(desk.work.messages) > FULL_WIRE:
+    if is_full(desk.work.messages):
         return [WIRE_IS_FULL]
     counts = work_out_ready(desk.work, worker, most)
     return [0, counts[0], counts[1]]
@@ -147,15 +164,69 @@ def call_deliver(desk, numbers):
     return [0, message.receiver] + instance_pair(desk, message.instance) + [fresh]
 
 
+def call_double(desk, numbers):
+    if not is_place(numbers[0], desk.work.messages):
+        return [NO_SUCH_MESSAGE]
+    if is_full(desk.work.messages):
+        return [WIRE_IS_FULL]
+    double_message(desk.work, numbers[0])
+    return [0]
+
+
+def call_lose(desk, numbers):
+    if not is_place(numbers[0], desk.work.messages):
+        return [NO_SUCH_MESSAGE]
+    desk.work.messages.pop(numbers[0])
+    return [0]
+
+
+def call_forget(desk, numbers):
+    if not is_place(numbers[0], desk.work.known):
+        return [NO_SUCH_WORKER]
+    return [0, forget_all(desk.work, numbers[0])]
+
+
+def call_resend(desk, numbers):
+    if not is_place(numbers[0], desk.work.known):
+        return [NO_SUCH_WORKER]
+    if is_full(desk.work.messages):
+        return [WIRE_IS_FULL]
+    return [0, resend_known(desk.work, numbers[0])]
+
+
+def call_all(desk, numbers):
+    counts = take_all_turns(desk.work)
+    return [0, counts[0], counts[1]]
+
+
+def call_knows(desk, numbers):
+    if not is_place(numbers[0], desk.work.known):
+        return [NO_SUCH_WORKER]
+    refusal = refusal_of_instance(desk.tree, numbers[1], numbers[2])
+    if refusal is not None:
+        return [refusal]
+    known = desk.work.known[numbers[0]]
+    instance = desk.tree.firsts[numbers[1]] + numbers[2]
+    if instance not in known:
+        return [NOT_KNOWN]
+    return [0] + flat_form(known[instance])
+
+
+def call_status(desk, numbers):
+    work = desk.work
+    return [0, count_unknown(work), count_ready(work), len(work.messages), work.put_count]
+
+
 CALLS = {
-    0: call_grammar, 1: call_tree, 2: call_cut, 3: call_begin,
-    4: call_home, 5: call_work, 6: call_wire, 7: call_deliver,
+    0: call_grammar, 1: call_tree, 2: call_cut, 3: call_begin, 4: call_home, 5: call_work, 6: call_wire,
+    7: call_deliver, 8: call_double, 9: call_lose, 10: call_forget, 11: call_resend, 12: call_all, 13: call_knows,
+    14: call_status,
 }
 
 TEXT_CALLS = (0, 1)
 
 # How many numbers a call takes that takes no text.
-NUMBER_COUNTS = {2: 1, 3: 0, 4: 2, 5: 2, 6: 0, 7: 1}
+NUMBER_COUNTS = {2: 1, 3: 0, 4: 2, 5: 2, 6: 0, 7: 1, 8: 1, 9: 1, 10: 1, 11: 1, 12: 0, 13: 3, 14: 0}
 
 
 def answer_call(desk, call, handed):

@@ -22,6 +22,7 @@ class Work:
         self.users = users_of(tree.instances)
         self.known = [{} for node in cuts]
         self.messages = []
+        self.put_count = 0
 
 
 # A parent stands before its children, so its owner is known by then.
@@ -78,16 +79,26 @@ def outcome_of(work, number):
     return worth(instance.equation.top, outcomes, work.tree.nodes[instance.equation_node].number)
 
 
-# Tells whether a message was sent.
-def work_out(work, number):
+# Every message goes this way, so that none is left out of the count.
+def put_on_wire(work, message):
+    work.messages.append(message)
+    work.put_count += 1
+
+
+# Tells whether there was a receiver to send it to.
+def send_outcome(work, number):
     home = work.homes[number]
     receiver = work.receivers[number]
-    outcome = outcome_of(work, number)
-    work.known[home][number] = outcome
     if receiver is None:
         return False
-    work.messages.append(Message(home, receiver, number, outcome))
+    put_on_wire(work, Message(home, receiver, number, work.known[home][number]))
     return True
+
+
+# Tells whether a message was sent.
+def work_out(work, number):
+    work.known[work.homes[number]][number] = outcome_of(work, number)
+    return send_outcome(work, number)
 
 
 # Answers how many were worked out, and how many messages were sent.
@@ -116,3 +127,56 @@ def deliver_message(work, place):
         return False
     known[message.instance] = message.outcome
     return True
+
+
+# Nothing ever changes a message, so one may stand on the wire twice.
+def double_message(work, place):
+    put_on_wire(work, work.messages[place])
+
+
+# Answers how many instances the worker knew.
+def forget_all(work, worker):
+    count = len(work.known[worker])
+    work.known[worker].clear()
+    return count
+
+
+# Answers how many messages were sent.
+def resend_known(work, worker):
+    sent = 0
+    for number, home in enumerate(work.homes):
+        if home == worker and number in work.known[worker]:
+            if send_outcome(work, number):
+                sent += 1
+    return sent
+
+
+# Answers how many instances were worked out, and how many messages were delivered.
+def take_turn(work):
+    count = 0
+    for worker in range(len(work.known)):
+        count += work_out_ready(work, worker, len(work.homes))[0]
+    delivered = len(work.messages)
+    for number in range(delivered):
+        deliver_message(work, 0)
+    return (count, delivered)
+
+
+# Answers how many turns changed something, and how many messages were delivered.
+def take_all_turns(work):
+    turns = 0
+    delivered = 0
+    turn = take_turn(work)
+    while turn != (0, 0):
+        turns += 1
+        delivered += turn[1]
+        turn = take_turn(work)
+    return (turns, delivered)
+
+
+def count_unknown(work):
+    return len([number for number, home in enumerate(work.homes) if number not in work.known[home]])
+
+
+def count_ready(work):
+    return len([number for number in range(len(work.homes)) if is_ready(work, number)])
